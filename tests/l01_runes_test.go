@@ -48,7 +48,7 @@ func wantBoundaries(data []byte) []int {
 	if len(data) > 400 || !utf8.Valid(data) {
 		return nil
 	}
-	var list []int
+	list := make([]int, 0, len(data)+1)
 	for at := range string(data) {
 		list = append(list, at)
 	}
