@@ -221,7 +221,7 @@ func modelPick(m impl.Mach, o impl.Op) (impl.Mach, impl.Out, bool) {
 		d, told := modelDocDo(m.Doc, o.Req, o.First)
 		return machOf(d, rest...), outOf(o.Req, o.First, told), true
 	case o.Tries == 7:
-		return machOf(m.Doc, rest...), outOf(o.Req, o.First, impl.Reply{Code: 9}), true
+		return machOf(m.Doc, rest...), outOf(o.Req, 0, impl.Reply{Code: 9}), true
 	default:
 		e, _ := modelMoves(o.Edit, modelEdits(m.Doc.Log[o.Base:]))
 		o = opAt(1, o.Req, o.First, now, o.Tries+1, e)
@@ -942,7 +942,7 @@ func TestTries(t *testing.T) {
 	}
 }
 
-// The First of an answer is the version that the request met, also if it is answered RepBusy.
+// The First of an answer is the version that the request met, but RepBusy is no answer of the document to that.
 func TestTriesOfALaterVersion(t *testing.T) {
 	put := req(impl.ReqDelete, 2, 0, 1, 0, "")
 	m, _ := steps(t, machOf(edited(t, room("ab"), 3, edit(0, 0, "1"), edit(0, 0, "2"))), frame(put), pick(2))
@@ -950,9 +950,57 @@ func TestTriesOfALaterVersion(t *testing.T) {
 		m, _ = steps(t, m, putBy(1, 0, "x")...)
 		if n < 7 {
 			m = checkQuiet(t, m, pick(2), machOf(m.Doc, opAt(1, put, 2, n+3, n+1, edit(n+1, 1, ""))))
+			stepsTo(t, m, picks(2, 2), at(1, outOf(put, 2, reply(0, n+4, n+1, ""))))
 		}
 	}
-	checkTold(t, m, pick(2), machOf(m.Doc), outOf(put, 2, impl.Reply{Code: impl.RepBusy}))
+	checkTold(t, m, pick(2), machOf(m.Doc), outOf(put, 0, impl.Reply{Code: impl.RepBusy}))
+}
+
+// Whatever the First and the Base of an op that fails for the last time, and whether or not it was checked, its output has First 0.
+func TestFirstOfBusyAnswers(t *testing.T) {
+	d := edited(t, room("abcd"), 3, edit(0, 0, "1"), edit(5, 0, "2"), edit(0, 1, ""))
+	later := req(impl.ReqLine, 3, 0, 0, 0, "")
+	for _, kind := range []int{impl.ReqInsert, impl.ReqDelete, impl.ReqReplace} {
+		put := reqOfKind(kind, 2, 2, "Y")
+		if kind != impl.ReqInsert {
+			put.B = 3
+		}
+		for first := range 4 {
+			for base := first; base < 4; base++ {
+				was := impl.Doc{Start: d.Start, Text: []byte(modelTextAt(d, base)), Log: d.Log[:base], Members: membersOf(2)}
+				e, _ := modelPlan(was, put, first)
+				for stage := 1; stage <= 2; stage++ {
+					m := machOf(d, opAt(stage, put, first, base, 7, e), newOp(later))
+					if base < 3 {
+						checkTold(t, m, pick(2), machOf(d, newOp(later)), outOf(put, 0, impl.Reply{Code: impl.RepBusy}))
+						continue
+					}
+					// With the same First, an op that does not fail has an answer of the document.
+					stepsTo(t, m, picks(2, 2)[stage-1:], at(2-stage, outOf(put, first, reply(0, 4, e.At, ""))))
+				}
+			}
+		}
+	}
+}
+
+// The run in which session 2 is told RepBusy has an edit that was planned at version 1.
+func TestFirstOfABusyAnswerInARun(t *testing.T) {
+	put := req(impl.ReqInsert, 2, 0, 0, 0, "Y")
+	list := []impl.Event{frame(req(impl.ReqOpen, 1, 0, 0, 0, "")), pick(1), frame(req(impl.ReqOpen, 2, 0, 0, 0, "")), pick(2)}
+	list = append(append(list, putBy(1, 0, "X")...), frame(put), pick(2))
+	for range 8 {
+		list = append(append(list, putBy(1, 0, "X")...), pick(2))
+	}
+	m, outs := checkRun(t, "", list)
+	if want := at(49, outOf(put, 0, impl.Reply{Code: impl.RepBusy})); len(list) != 50 || len(outs) != 12 || !sameOut(outs[11], want) {
+		t.Fatalf("50 events are told\n%s", outTexts(outs))
+	}
+	checkLeft(t, m, "XXXXXXXXX", 9)
+	before, _ := checkRun(t, "", list[:49])
+	if o, pending := impl.MachOp(before, 2); !pending || o.First != 1 || o.Tries != 7 {
+		t.Fatalf("49 events leave %s", machText(before))
+	}
+	checkTold(t, before, pick(2), m, outOf(put, 0, impl.Reply{Code: impl.RepBusy}))
 }
 
 // An op fails once, however many commits have been made since it was picked.
@@ -1607,25 +1655,31 @@ func checkCodes(t *testing.T, done map[[2]int]int, least int, codes ...int) {
 	}
 }
 
+// randomRun returns a text, events of four sessions that all open first, and the machine that the steps leave.
+func randomRun(random *rand.Rand, n int) (string, []impl.Event, impl.Mach) {
+	text := textOf(randomRope(random, 40))
+	m := machOf(docOf(text))
+	var list []impl.Event
+	for session := 1; session <= 4; session++ {
+		list = append(list, frame(req(impl.ReqOpen, session, 0, 0, 0, "")), pick(session))
+	}
+	for _, e := range list {
+		m, _, _ = impl.MachStep(m, e)
+	}
+	for len(list) < []int{300, 299, 100, 20}[n%4] {
+		e := randomMachEvent(random, m, 4, isMeanWalk(n/2))
+		m, _, _ = impl.MachStep(m, e)
+		list = append(list, e)
+	}
+	return text, list, m
+}
+
 func TestRandomRuns(t *testing.T) {
 	t.Parallel()
 	random := rand.New(rand.NewSource(112))
 	done := map[[2]int]int{}
 	for n := range 30 {
-		text := textOf(randomRope(random, 40))
-		m := machOf(docOf(text))
-		var list []impl.Event
-		for session := 1; session <= 4; session++ {
-			list = append(list, frame(req(impl.ReqOpen, session, 0, 0, 0, "")), pick(session))
-		}
-		for _, e := range list {
-			m, _, _ = impl.MachStep(m, e)
-		}
-		for len(list) < []int{300, 299, 100, 20}[n%4] {
-			e := randomMachEvent(random, m, 4, isMeanWalk(n/2))
-			m, _, _ = impl.MachStep(m, e)
-			list = append(list, e)
-		}
+		text, list, m := randomRun(random, n)
 		last, told := checkRun(t, text, list)
 		if !sameMach(last, m) {
 			t.Fatalf("the run leaves %s, and the steps %s", machText(last), machText(m))
@@ -1734,9 +1788,9 @@ func machCalls() map[string]func(machArgs) machResult {
 }
 
 // checkApartFrom asserts that no memory of the result is memory of the arguments, or twice in the result.
-func checkApartFrom(t *testing.T, name string, got machResult, args reflect.Value) {
+func checkApartFrom(t *testing.T, name string, got reflect.Value, args reflect.Value) {
 	t.Helper()
-	results := memoryOf(reflect.ValueOf(got), "result")
+	results := memoryOf(got, "result")
 	all := slices.Concat(results, memoryOf(args, "arguments"))
 	for i, a := range results {
 		for _, b := range all[i+1:] {
@@ -1747,22 +1801,22 @@ func checkApartFrom(t *testing.T, name string, got machResult, args reflect.Valu
 	}
 }
 
-// checkOwnMach asserts that a call reads nothing behind its arguments, changes none of them, and returns memory of its own.
-func checkOwnMach(t *testing.T, name string, args machArgs, call func(machArgs) machResult) {
+// checkOwn asserts that a call reads nothing behind its arguments, changes none of them, and returns memory of its own.
+func checkOwn[A any, R any](t *testing.T, name string, args A, call func(A) R, show func(R) string) {
 	t.Helper()
 	plain := call(args)
-	checkApartFrom(t, name, plain, reflect.ValueOf(args))
-	want := machResultText(plain)
+	checkApartFrom(t, name, reflect.ValueOf(plain), reflect.ValueOf(args))
+	want := show(plain)
 	wide := roomy(reflect.ValueOf(args))
 	before := wholeText(wide)
-	got := call(wide.Interface().(machArgs))
-	if machResultText(got) != want {
-		t.Fatalf("%s returns %s with more behind its arguments, and %s without", name, machResultText(got), want)
+	got := call(wide.Interface().(A))
+	if show(got) != want {
+		t.Fatalf("%s returns %s with more behind its arguments, and %s without", name, show(got), want)
 	}
 	if after := wholeText(wide); after != before {
 		t.Fatalf("%s: its arguments %s became %s", name, before, after)
 	}
-	checkApartFrom(t, name, got, wide)
+	checkApartFrom(t, name, reflect.ValueOf(got), wide)
 }
 
 // sharing is a machine whose slices share memory wherever they can.
@@ -1792,7 +1846,7 @@ func TestMachinesShareNoMemory(t *testing.T) {
 		}
 		for _, e := range events {
 			for name, call := range machCalls() {
-				checkOwnMach(t, name, machArgs{m, e, max(e.Session, 1), []byte("ab\u00e9"), append(slices.Clone(list), e)}, call)
+				checkOwn(t, name, machArgs{m, e, max(e.Session, 1), []byte("ab\u00e9"), append(slices.Clone(list), e)}, call, machResultText)
 			}
 		}
 	}
@@ -1811,7 +1865,7 @@ func TestMachinesAreNotModified(t *testing.T) {
 			args := machArgs{m, e, 1 + random.Intn(3), m.Doc.Text, list}
 			for name, call := range machCalls() {
 				if name != "MachRun" || len(list)%20 == 0 {
-					checkOwnMach(t, name, args, call)
+					checkOwn(t, name, args, call, machResultText)
 				}
 			}
 			m, _, _ = impl.MachStep(m, e)
